@@ -15,6 +15,7 @@ import (
 
 	"vidimus/api"
 	"vidimus/oids"
+	"vidimus/samples"
 )
 
 // maxSecond is the greatest second arc below the first arc 2.
@@ -263,30 +264,6 @@ func checkParse(t *testing.T, s string) {
 	if o, e := oids.Parse(s); o != want || e != wantError {
 		t.Errorf("Parse(%.100q): %v, error %d, want %v, error %d", s, o, e, want, wantError)
 	}
-}
-
-// sequences calls use with all sequences of up to size octets of an alphabet.
-func sequences(alphabet []byte, size int, use func(b []byte)) {
-	var extend func(b []byte)
-	extend = func(b []byte) {
-		use(b)
-		if len(b) == size {
-			return
-		}
-		for _, octet := range alphabet {
-			extend(append(b[:len(b):len(b)], octet))
-		}
-	}
-	extend(nil)
-}
-
-// allOctets lists all octets.
-func allOctets() []byte {
-	var list []byte
-	for octet := range 256 {
-		list = append(list, byte(octet))
-	}
-	return list
 }
 
 // P6.1
@@ -568,9 +545,9 @@ func TestPutOfInvalidOIDs(t *testing.T) {
 
 func TestGet(t *testing.T) {
 	check := func(b []byte) { checkGet(t, b) }
-	sequences(allOctets(), 2, check)
-	sequences([]byte{0, 1, 0x27, 0x28, 0x4f, 0x50, 0x7f, 0x80, 0x81, 0x8f, 0x90, 0xff}, 4, check)
-	sequences([]byte{0, 0x7f, 0x80, 0x8f, 0xff}, 6, check)
+	samples.Lists(samples.Octets(), 2, check)
+	samples.Lists([]byte{0, 1, 0x27, 0x28, 0x4f, 0x50, 0x7f, 0x80, 0x81, 0x8f, 0x90, 0xff}, 4, check)
+	samples.Lists([]byte{0, 0x7f, 0x80, 0x8f, 0xff}, 6, check)
 	random := rand.New(rand.NewSource(5))
 	for range 20000 {
 		b := make([]byte, random.Intn(30))
@@ -685,10 +662,10 @@ func TestText(t *testing.T) {
 
 func TestParse(t *testing.T) {
 	check := func(b []byte) { checkParse(t, string(b)) }
-	sequences([]byte("0123459.x"), 5, check)
-	sequences([]byte("012."), 8, check)
-	sequences(allOctets(), 1, check)
-	for _, octet := range allOctets() {
+	samples.Lists([]byte("0123459.x"), 5, check)
+	samples.Lists([]byte("012."), 8, check)
+	samples.Lists(samples.Octets(), 1, check)
+	for _, octet := range samples.Octets() {
 		for _, text := range []string{"1.2.3", "2.999", "1.10.100"} {
 			for i := range len(text) {
 				checkParse(t, text[:i]+string([]byte{octet})+text[i:])
@@ -773,8 +750,8 @@ func TestGottenOIDsHaveTheOctetsThatWereRead(t *testing.T) {
 			t.Errorf("Get(%x): %v, whose octets are %x, error %d", b, o, again, e)
 		}
 	}
-	sequences(allOctets(), 2, check)
-	sequences([]byte{0, 1, 0x27, 0x28, 0x4f, 0x50, 0x7f, 0x80, 0x81, 0x8f, 0x90, 0xff}, 5, check)
+	samples.Lists(samples.Octets(), 2, check)
+	samples.Lists([]byte{0, 1, 0x27, 0x28, 0x4f, 0x50, 0x7f, 0x80, 0x81, 0x8f, 0x90, 0xff}, 5, check)
 }
 
 func TestParseInvertsText(t *testing.T) {
@@ -786,7 +763,7 @@ func TestParseInvertsText(t *testing.T) {
 }
 
 func TestParsedOIDsHaveTheTextsThatWereRead(t *testing.T) {
-	sequences([]byte("0123459.x"), 5, func(b []byte) {
+	samples.Lists([]byte("0123459.x"), 5, func(b []byte) {
 		if o, e := oids.Parse(string(b)); e == api.OK && oids.Text(o) != string(b) {
 			t.Errorf("Parse(%q): %v, whose text is %q", b, o, oids.Text(o))
 		}

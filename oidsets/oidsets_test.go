@@ -10,6 +10,7 @@ import (
 	"vidimus/api"
 	"vidimus/oids"
 	"vidimus/oidsets"
+	"vidimus/samples"
 )
 
 // oid returns an OID with arcs, which need not be valid.
@@ -143,21 +144,6 @@ func read(s string) ([]api.OID, api.Errno) {
 	return l, api.OK
 }
 
-// lists calls use with all lists of up to size elements of an alphabet.
-func lists[T any](alphabet []T, size int, use func(l []T)) {
-	var extend func(l []T)
-	extend = func(l []T) {
-		use(l)
-		if len(l) == size {
-			return
-		}
-		for _, x := range alphabet {
-			extend(append(l[:len(l):len(l)], x))
-		}
-	}
-	extend(nil)
-}
-
 // checkResult compares a result with the one that is wanted; it must have no spare capacity.
 func checkResult(t *testing.T, what string, l []api.OID, e api.Errno, want []api.OID, wantError api.Errno) {
 	t.Helper()
@@ -179,7 +165,7 @@ func TestCheck(t *testing.T) {
 		}
 	}
 	alphabet := []api.OID{{}, oid(1, 2), spoilt(oid(1, 2)), oid(1, 2, 3), oid(1, 3), oids.Any(), oid(3, 0)}
-	lists(alphabet, 5, func(l []api.OID) {
+	samples.Lists(alphabet, 5, func(l []api.OID) {
 		if e := oidsets.Check(l); e != check(l) {
 			t.Errorf("Check(%v): error %d, want %d", l, e, check(l))
 		}
@@ -247,7 +233,7 @@ func TestOf(t *testing.T) {
 		want, wantError := sorted(list)
 		checkResult(t, "Of", l, e, want, wantError)
 	}
-	lists([]api.OID{{}, oid(1, 2), oid(1, 2, 3), oid(1, 3), oids.Any()}, 5, of)
+	samples.Lists([]api.OID{{}, oid(1, 2), oid(1, 2, 3), oid(1, 3), oids.Any()}, 5, of)
 	random := rand.New(rand.NewSource(1))
 	list := universe()
 	for range 2000 {
@@ -544,9 +530,9 @@ func checkParse(t *testing.T, s string) {
 }
 
 func TestParse(t *testing.T) {
-	lists([]byte("{} .134"), 6, func(b []byte) { checkParse(t, string(b)) })
-	lists([]byte("{} .13"), 5, func(b []byte) { checkParse(t, "{"+string(b)+"}") })
-	lists([]string{"1.2", "1.3", "3.1", "1.2.4294967296", "1.2.03", "x", " ", "  ", "{", "}"}, 4, func(words []string) {
+	samples.Lists([]byte("{} .134"), 6, func(b []byte) { checkParse(t, string(b)) })
+	samples.Lists([]byte("{} .13"), 5, func(b []byte) { checkParse(t, "{"+string(b)+"}") })
+	samples.Lists([]string{"1.2", "1.3", "3.1", "1.2.4294967296", "1.2.03", "x", " ", "  ", "{", "}"}, 4, func(words []string) {
 		checkParse(t, "{"+strings.Join(words, " ")+"}")
 		checkParse(t, "{"+strings.Join(words, "")+"}")
 		checkParse(t, strings.Join(words, " "))

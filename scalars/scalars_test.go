@@ -12,6 +12,7 @@ import (
 	"vidimus/api"
 	"vidimus/elements"
 	"vidimus/nats"
+	"vidimus/samples"
 	"vidimus/scalars"
 )
 
@@ -68,30 +69,6 @@ func integer(b []byte) (*big.Int, bool) {
 		n.Sub(n, new(big.Int).Lsh(big.NewInt(1), uint(8*len(b))))
 	}
 	return n, bytes.Equal(twosComplement(n), b)
-}
-
-// strings calls use with all strings of up to size octets of an alphabet.
-func strings(alphabet []byte, size int, use func(b []byte)) {
-	var extend func(b []byte)
-	extend = func(b []byte) {
-		use(b)
-		if len(b) == size {
-			return
-		}
-		for _, octet := range alphabet {
-			extend(append(b[:len(b):len(b)], octet))
-		}
-	}
-	extend(nil)
-}
-
-// allOctets lists all octets.
-func allOctets() []byte {
-	var list []byte
-	for octet := range 256 {
-		list = append(list, byte(octet))
-	}
-	return list
 }
 
 // checkGetInt checks that GetInt returns what the chapter asks for.
@@ -161,7 +138,7 @@ func TestPutBool(t *testing.T) {
 }
 
 func TestGetBool(t *testing.T) {
-	strings(allOctets(), 2, func(b []byte) {
+	samples.Lists(samples.Octets(), 2, func(b []byte) {
 		v, e := scalars.GetBool(b)
 		switch {
 		case bytes.Equal(b, []byte{0}):
@@ -214,9 +191,9 @@ func TestPutIntAgainstAnotherImplementation(t *testing.T) {
 
 func TestGetInt(t *testing.T) {
 	check := func(b []byte) { checkGetInt(t, b) }
-	strings(allOctets(), 2, check)
-	strings([]byte{0, 1, 0x7f, 0x80, 0x81, 0xfe, 0xff}, 4, check)
-	strings([]byte{0, 0x80, 0xff}, 9, check)
+	samples.Lists(samples.Octets(), 2, check)
+	samples.Lists([]byte{0, 1, 0x7f, 0x80, 0x81, 0xfe, 0xff}, 4, check)
+	samples.Lists([]byte{0, 0x80, 0xff}, 9, check)
 	random := rand.New(rand.NewSource(3))
 	for range 50000 {
 		b := make([]byte, random.Intn(11))
@@ -230,7 +207,7 @@ func TestGetInt(t *testing.T) {
 
 func TestGetIntOfManyOctets(t *testing.T) {
 	for _, size := range []int{8, 9, 10, 64, 65, 66, 255, 256, 257, 1000} {
-		for _, first := range allOctets() {
+		for _, first := range samples.Octets() {
 			for _, second := range []byte{0, 1, 0x7f, 0x80, 0xff} {
 				checkGetInt(t, slices.Concat([]byte{first, second}, make([]byte, size-2)))
 			}
@@ -297,8 +274,8 @@ func TestPutNatOfInvalidNumbers(t *testing.T) {
 
 func TestGetNat(t *testing.T) {
 	check := func(b []byte) { checkGetNat(t, b) }
-	strings(allOctets(), 2, check)
-	strings([]byte{0, 1, 0x7f, 0x80, 0x81, 0xfe, 0xff}, 5, check)
+	samples.Lists(samples.Octets(), 2, check)
+	samples.Lists([]byte{0, 1, 0x7f, 0x80, 0x81, 0xfe, 0xff}, 5, check)
 	random := rand.New(rand.NewSource(4))
 	for range 20000 {
 		b := make([]byte, random.Intn(70))
@@ -312,7 +289,7 @@ func TestGetNat(t *testing.T) {
 
 func TestGetNatOfManyOctets(t *testing.T) {
 	for _, size := range []int{8, 9, 63, 64, 65, 66, 67, 255, 256, 257, 1000} {
-		for _, first := range allOctets() {
+		for _, first := range samples.Octets() {
 			for _, second := range []byte{0, 1, 0x7f, 0x80, 0xff} {
 				checkGetNat(t, slices.Concat([]byte{first, second}, make([]byte, size-2)))
 			}
@@ -532,8 +509,8 @@ func TestOnlyWhatPutReturnsIsAccepted(t *testing.T) {
 			t.Errorf("GetNat accepts %x", b)
 		}
 	}
-	strings(allOctets(), 2, check)
-	strings([]byte{0, 1, 0x7f, 0x80, 0xff}, 6, check)
+	samples.Lists(samples.Octets(), 2, check)
+	samples.Lists([]byte{0, 1, 0x7f, 0x80, 0xff}, 6, check)
 	for _, content := range contents() {
 		check(content)
 	}
