@@ -5,11 +5,13 @@ import (
 	"encoding/asn1"
 	"math"
 	"math/rand"
+	"slices"
 	"testing"
 
 	"vidimus/api"
 	"vidimus/elements"
 	"vidimus/lengths"
+	"vidimus/samples"
 	"vidimus/tags"
 )
 
@@ -47,19 +49,6 @@ func times(e api.Element, n int, more ...api.Element) api.Element {
 
 // blob returns an OCTET STRING of n octets.
 func blob(n int) api.Element { return api.Element{Tag: octets, Bytes: make([]byte, n)} }
-
-// cyclic returns elements that contain themselves.
-func cyclic() []api.Element {
-	one := make([]api.Element, 1)
-	one[0] = api.Element{Tag: sequence, Subs: one}
-	three := make([]api.Element, 3)
-	for i := range three {
-		three[i] = api.Element{Tag: sequence, Subs: three}
-	}
-	late := make([]api.Element, 3)
-	late[0], late[1], late[2] = null, seven, api.Element{Tag: sequence, Subs: late}
-	return []api.Element{one[0], three[1], late[2], seq(null, one[0])}
-}
 
 // random makes random elements.
 type random struct{ *rand.Rand }
@@ -183,22 +172,6 @@ func encode(t *testing.T, e api.Element) []byte {
 	return b
 }
 
-// equal compares elements as the chapter does: nil and empty slices are equal.
-func equal(a, b api.Element) bool {
-	if a.Tag != b.Tag || string(a.Bytes) != string(b.Bytes) || len(a.Subs) != len(b.Subs) {
-		return false
-	}
-	for i := range a.Subs {
-		if !equal(a.Subs[i], b.Subs[i]) {
-			return false
-		}
-	}
-	return true
-}
-
-// isZero reports whether an element is the zero value.
-func isZero(e api.Element) bool { return equal(e, api.Element{}) }
-
 // visit calls see for each element of e, in preorder, with its depth.
 func visit(e api.Element, level int, see func(e api.Element, level int)) {
 	see(e, level)
@@ -226,7 +199,7 @@ func TestCheck(t *testing.T) {
 }
 
 func TestCheckOfElementsThatContainThemselves(t *testing.T) {
-	for i, e := range cyclic() {
+	for i, e := range samples.Cyclic() {
 		if err := elements.Check(e); err != api.ErrDepth {
 			t.Errorf("%d: error %d", i, err)
 		}
@@ -439,10 +412,10 @@ func (r *reading) step() fault {
 // checkFault checks that Next and Get return a fault, and nothing else, for b.
 func checkFault(t *testing.T, b []byte, at int, want api.Errno) {
 	t.Helper()
-	if e, size, where, err := elements.Next(b); err != want || where != at || size != 0 || !isZero(e) {
+	if e, size, where, err := elements.Next(b); err != want || where != at || size != 0 || !samples.IsZero(e) {
 		t.Errorf("Next(%x): %v, size %d, error %d at %d, want %d at %d", brief(b), e, size, err, where, want, at)
 	}
-	if e, where, err := elements.Get(b); err != want || where != at || !isZero(e) {
+	if e, where, err := elements.Get(b); err != want || where != at || !samples.IsZero(e) {
 		t.Errorf("Get(%x): %v, error %d at %d, want %d at %d", brief(b), e, err, where, want, at)
 	}
 }
@@ -464,10 +437,10 @@ func checkRead(t *testing.T, b []byte) {
 		t.Errorf("Next(%x): the element has the encoding %x", brief(b), brief(back))
 	}
 	e, at, err = elements.Get(b)
-	if size == len(b) && (err != api.OK || at != 0 || isZero(e)) {
+	if size == len(b) && (err != api.OK || at != 0 || samples.IsZero(e)) {
 		t.Errorf("Get(%x): error %d at %d", brief(b), err, at)
 	}
-	if size < len(b) && (err != api.ErrTrail || at != size || !isZero(e)) {
+	if size < len(b) && (err != api.ErrTrail || at != size || !samples.IsZero(e)) {
 		t.Errorf("Get(%x): %v, error %d at %d, want %d at %d", brief(b), e, err, at, api.ErrTrail, size)
 	}
 }
@@ -475,7 +448,7 @@ func checkRead(t *testing.T, b []byte) {
 func TestGetAndNext(t *testing.T) {
 	for i, e := range append(valid(), largest()...) {
 		b := encode(t, e)
-		if got, at, err := elements.Get(b); err != api.OK || at != 0 || !equal(got, e) {
+		if got, at, err := elements.Get(b); err != api.OK || at != 0 || !samples.Equal(got, e) {
 			t.Errorf("%d: Get(%x): error %d at %d", i, brief(b), err, at)
 		}
 		for _, tail := range [][]byte{nil, {0}, {0, 0}, {0x30}, {0x30, 0x80}, bytes.Repeat([]byte{0xff}, 200), b} {
@@ -485,13 +458,13 @@ func TestGetAndNext(t *testing.T) {
 				continue
 			}
 			got, size, at, err := elements.Next(full)
-			if err != api.OK || at != 0 || size != len(b) || !equal(got, e) {
+			if err != api.OK || at != 0 || size != len(b) || !samples.Equal(got, e) {
 				t.Errorf("%d: Next(%x, then %x): size %d, error %d at %d", i, brief(b), brief(tail), size, err, at)
 			}
 			if len(tail) == 0 {
 				continue
 			}
-			if got, at, err := elements.Get(full); err != api.ErrTrail || at != len(b) || !isZero(got) {
+			if got, at, err := elements.Get(full); err != api.ErrTrail || at != len(b) || !samples.IsZero(got) {
 				t.Errorf("%d: Get(%x, then %x): error %d at %d", i, brief(b), brief(tail), err, at)
 			}
 		}
@@ -630,7 +603,7 @@ func TestFaultsOfLargeInputs(t *testing.T) {
 	}
 	b := make([]byte, api.MaxText)
 	b[0] = api.TagNull
-	if e, size, at, err := elements.Next(b); err != api.OK || at != 0 || size != 2 || !equal(e, null) {
+	if e, size, at, err := elements.Next(b); err != api.OK || at != 0 || size != 2 || !samples.Equal(e, null) {
 		t.Errorf("a NULL, then zeros: size %d, error %d at %d", size, err, at)
 	}
 }
@@ -799,7 +772,7 @@ func TestSame(t *testing.T) {
 			t.Errorf("%d: not the same as a copy, error %d", i, err)
 		}
 		for k, v := range variants(e) {
-			want := equal(e, v) && elements.Check(v) == api.OK
+			want := samples.Equal(e, v) && elements.Check(v) == api.OK
 			if elements.Same(e, v) != want || elements.Same(v, e) != want {
 				t.Errorf("%d: Same for the variant %d: %t, want %t", i, k, !want, want)
 			}
@@ -823,7 +796,7 @@ func TestSameOfLargeElements(t *testing.T) {
 	list := large()[:13] // the others have too many bytes to compare them all
 	for i, e := range list {
 		for k, other := range list {
-			if want := equal(e, other); elements.Same(e, other) != want {
+			if want := samples.Equal(e, other); elements.Same(e, other) != want {
 				t.Errorf("Same(large element %d, %d): %t", i, k, !want)
 			}
 		}
@@ -904,7 +877,7 @@ func TestAt(t *testing.T) {
 		var walk func(sub api.Element, path []int)
 		walk = func(sub api.Element, path []int) {
 			kept := append([]int(nil), path...)
-			if got, err := elements.At(e, path); err != api.OK || !equal(got, sub) {
+			if got, err := elements.At(e, path); err != api.OK || !samples.Equal(got, sub) {
 				t.Errorf("element %d, path %v: error %d", i, path, err)
 			}
 			for k := range path {
@@ -913,10 +886,10 @@ func TestAt(t *testing.T) {
 				}
 			}
 			for _, k := range []int{-1, len(sub.Subs), len(sub.Subs) + 1, math.MaxInt, math.MinInt} {
-				if got, err := elements.At(e, append(path, k)); err != api.ErrNone || !isZero(got) {
+				if got, err := elements.At(e, append(path, k)); err != api.ErrNone || !samples.IsZero(got) {
 					t.Errorf("element %d, path %v and %d: error %d", i, path, k, err)
 				}
-				if got, err := elements.At(e, append(path, k, 0)); err != api.ErrNone || !isZero(got) {
+				if got, err := elements.At(e, append(path, k, 0)); err != api.ErrNone || !samples.IsZero(got) {
 					t.Errorf("element %d, path %v, %d and 0: error %d", i, path, k, err)
 				}
 			}
@@ -936,7 +909,7 @@ func TestAtOfInvalidElements(t *testing.T) {
 	for _, x := range invalid {
 		// The element is checked as a whole, wherever the path leads.
 		for _, path := range [][]int{nil, {}, {0}, {0, 0}, {1}, {-1}, {math.MaxInt}} {
-			if e, err := elements.At(x.e, path); err != x.err || !isZero(e) {
+			if e, err := elements.At(x.e, path); err != x.err || !samples.IsZero(e) {
 				t.Errorf("%s, path %v: error %d, want %d", x.name, path, err, x.err)
 			}
 		}
@@ -972,7 +945,7 @@ func TestGottenElementsHaveTheEncodingsThatWereRead(t *testing.T) {
 	for b := range inputs {
 		e, size, at, err := elements.Next(b)
 		if err != api.OK {
-			if at < 0 || at > len(b) || size != 0 || !isZero(e) {
+			if at < 0 || at > len(b) || size != 0 || !samples.IsZero(e) {
 				t.Fatalf("Next(%x): size %d, error %d at %d", b, size, err, at)
 			}
 			continue
@@ -1014,20 +987,20 @@ func TestSameIsEqualityOfEncodings(t *testing.T) {
 
 func TestExamples(t *testing.T) {
 	e, at, err := elements.Get(chapterE)
-	if err != api.OK || at != 0 || !equal(e, seq(seven, null)) {
+	if err != api.OK || at != 0 || !samples.Equal(e, seq(seven, null)) {
 		t.Errorf("Get(E): %v, error %d at %d", e, err, at)
 	}
 	if elements.Count(e) != 3 || elements.Depth(e) != 2 {
 		t.Errorf("Count(E): %d, Depth(E): %d", elements.Count(e), elements.Depth(e))
 	}
-	if got, err := elements.At(e, []int{1}); err != api.OK || !equal(got, null) {
+	if got, err := elements.At(e, []int{1}); err != api.OK || !samples.Equal(got, null) {
 		t.Errorf("At(E, 1): %v, error %d", got, err)
 	}
 	twice := []byte{5, 0, 5, 0}
-	if e, size, at, err := elements.Next(twice); err != api.OK || at != 0 || size != 2 || !equal(e, null) {
+	if e, size, at, err := elements.Next(twice); err != api.OK || at != 0 || size != 2 || !samples.Equal(e, null) {
 		t.Errorf("Next(%x): size %d, error %d at %d", twice, size, err, at)
 	}
-	if e, at, err := elements.Get(twice); err != api.ErrTrail || at != 2 || !isZero(e) {
+	if e, at, err := elements.Get(twice); err != api.ErrTrail || at != 2 || !samples.IsZero(e) {
 		t.Errorf("Get(%x): error %d at %d", twice, err, at)
 	}
 	checkFault(t, []byte{0x30, 5, 2, 1, 7}, 5, api.ErrShort)
@@ -1039,7 +1012,7 @@ func TestExamples(t *testing.T) {
 	if err := elements.Check(api.Element{Tag: octets, Subs: []api.Element{null}}); err != api.ErrArg {
 		t.Errorf("Check(primitive with Subs): error %d", err)
 	}
-	if got, err := elements.At(e, []int{2}); err != api.ErrNone || !isZero(got) {
+	if got, err := elements.At(e, []int{2}); err != api.ErrNone || !samples.IsZero(got) {
 		t.Errorf("At(E, 2): error %d", err)
 	}
 	if got := elements.Compare(null, e); got != -1 {
@@ -1048,29 +1021,6 @@ func TestExamples(t *testing.T) {
 }
 
 // R4
-
-// spoil overwrites all that an element keeps in memory, and what stands behind it.
-func spoil(e api.Element) {
-	for i := range e.Bytes[:cap(e.Bytes)] {
-		e.Bytes[:cap(e.Bytes)][i] ^= 0xff
-	}
-	for i := range e.Subs {
-		spoil(e.Subs[i])
-	}
-	for i := range e.Subs[:cap(e.Subs)] {
-		e.Subs[:cap(e.Subs)][i] = alien
-	}
-}
-
-// checkCapacity checks that the slices of an element have no spare capacity.
-func checkCapacity(t *testing.T, e api.Element) {
-	t.Helper()
-	visit(e, 1, func(e api.Element, _ int) {
-		if cap(e.Bytes) != len(e.Bytes) || cap(e.Subs) != len(e.Subs) {
-			t.Errorf("%d Bytes with the capacity %d, %d Subs with the capacity %d", len(e.Bytes), cap(e.Bytes), len(e.Subs), cap(e.Subs))
-		}
-	})
-}
 
 func TestResultsAreNewMemory(t *testing.T) {
 	for i, e := range valid() {
@@ -1088,15 +1038,15 @@ func TestResultsAreNewMemory(t *testing.T) {
 		three, _ := elements.At(two, nil)
 		four, _ := elements.At(two, nil)
 		five, _ := elements.At(e, nil)
-		for _, x := range []api.Element{one, two, three, four, five} {
-			checkCapacity(t, x)
+		if slices.ContainsFunc([]api.Element{one, two, three, four, five}, samples.HasSpare) {
+			t.Errorf("%d: an element has spare capacity", i)
 		}
 		for k, x := range []api.Element{one, three, two, five} {
-			spoil(x)
+			samples.Spoil(x)
 			if !bytes.Equal(b, want) {
 				t.Fatalf("%d: element %d shares memory with the encoding", i, k)
 			}
-			if !equal(four, e) || k < 2 && !equal(two, e) {
+			if !samples.Equal(four, e) || k < 2 && !samples.Equal(two, e) {
 				t.Fatalf("%d: element %d shares memory with another one", i, k)
 			}
 		}
@@ -1112,12 +1062,14 @@ func TestPartsOfAResultShareNoMemory(t *testing.T) {
 	if err != api.OK {
 		t.Fatalf("error %d", err)
 	}
-	spoil(e.Subs[0])
-	if !equal(e.Subs[1], shared) || !equal(e.Subs[2], seven) || !equal(shared, seq(seven, seven)) || seven.Bytes[0] != 7 {
+	samples.Spoil(e.Subs[0])
+	if !samples.Equal(e.Subs[1], shared) || !samples.Equal(e.Subs[2], seven) || !samples.Equal(shared, seq(seven, seven)) || seven.Bytes[0] != 7 {
 		t.Errorf("parts share memory: %v", e)
 	}
 	spare := append(make([]byte, 0, 100), 1, 2, 3)
 	subs := append(make([]api.Element, 0, 100), api.Element{Tag: octets, Bytes: spare}, null)
 	e, _ = elements.At(api.Element{Tag: sequence, Subs: subs}, nil)
-	checkCapacity(t, e)
+	if samples.HasSpare(e) {
+		t.Error("spare capacity")
+	}
 }

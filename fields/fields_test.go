@@ -95,14 +95,6 @@ func cyclic() api.Element {
 	return e
 }
 
-// equal compares elements as the document does: nil and empty slices are equal.
-func equal(a, b api.Element) bool {
-	return a.Tag == b.Tag && bytes.Equal(a.Bytes, b.Bytes) && slices.EqualFunc(a.Subs, b.Subs, equal)
-}
-
-// isZero reports whether an element is the zero value.
-func isZero(e api.Element) bool { return equal(e, api.Element{}) }
-
 // isFault reports whether a fault has this error and this path.
 func isFault(f fields.Fault, err api.Errno, path ...int) bool {
 	return f.E == err && slices.Equal(f.Path, path)
@@ -582,10 +574,10 @@ func TestAt(t *testing.T) {
 		samples.Lists(indices, 4, func(path []int) {
 			want, found := find(e, path)
 			got, err := fields.At(e, path)
-			if found && (err != api.OK || !equal(got, want)) {
+			if found && (err != api.OK || !samples.Equal(got, want)) {
 				t.Fatalf("tree %d, At(%v): error %d", k, path, err)
 			}
-			if !found && (err != api.ErrNone || !isZero(got)) {
+			if !found && (err != api.ErrNone || !samples.IsZero(got)) {
 				t.Fatalf("tree %d, At(%v): error %d, want ErrNone", k, path, err)
 			}
 		})
@@ -606,11 +598,11 @@ func TestAtOfElementsThatContainThemselves(t *testing.T) {
 	e := cyclic()
 	for n := range 100 {
 		path := slices.Repeat([]int{1}, n*n)
-		if got, err := fields.At(e, append(path, 0)); err != api.OK || !equal(got, num(7)) {
+		if got, err := fields.At(e, append(path, 0)); err != api.OK || !samples.Equal(got, num(7)) {
 			t.Fatalf("an element in itself, %d levels down: error %d", n*n, err)
 		}
 		for _, i := range []int{-1, 2} {
-			if got, err := fields.At(e, append(path, i)); err != api.ErrNone || !isZero(got) {
+			if got, err := fields.At(e, append(path, i)); err != api.ErrNone || !samples.IsZero(got) {
 				t.Fatalf("nothing, %d levels down: error %d", n*n, err)
 			}
 		}
@@ -619,11 +611,11 @@ func TestAtOfElementsThatContainThemselves(t *testing.T) {
 	both := seq(api.Element{}, api.Element{})
 	both.Subs[0], both.Subs[1] = both, both
 	for _, x := range []api.Element{e, both, seq(e), seq(num(1), both)} {
-		if got, err := fields.At(x, nil); err != api.ErrDepth || !isZero(got) {
+		if got, err := fields.At(x, nil); err != api.ErrDepth || !samples.IsZero(got) {
 			t.Errorf("an element that contains itself: error %d", err)
 		}
 	}
-	if got, err := fields.At(e, make([]int, 1<<20)); err != api.ErrNone || !isZero(got) {
+	if got, err := fields.At(e, make([]int, 1<<20)); err != api.ErrNone || !samples.IsZero(got) {
 		t.Errorf("a long path: error %d", err)
 	}
 }
@@ -636,10 +628,10 @@ func TestAtOfDeepElements(t *testing.T) {
 	}{{17, api.OK}, {1000, api.OK}, {maxLevels - 1, api.OK}, {maxLevels, api.OK}, {maxLevels + 1, api.ErrDepth}} {
 		e := nest(num(1), x.levels-1)
 		got, err := fields.At(e, nil)
-		if err != x.want || err == api.OK && !equal(got, e) || err != api.OK && !isZero(got) {
+		if err != x.want || err == api.OK && !samples.Equal(got, e) || err != api.OK && !samples.IsZero(got) {
 			t.Errorf("%d levels: error %d", x.levels, err)
 		}
-		if got, err := fields.At(e, make([]int, x.levels-1)); err != api.OK || !equal(got, num(1)) {
+		if got, err := fields.At(e, make([]int, x.levels-1)); err != api.OK || !samples.Equal(got, num(1)) {
 			t.Errorf("the innermost of %d levels: error %d", x.levels, err)
 		}
 	}
@@ -647,27 +639,27 @@ func TestAtOfDeepElements(t *testing.T) {
 
 func TestAtOfLargeElements(t *testing.T) {
 	many := seq(slices.Repeat([]api.Element{num(1)}, 100000)...)
-	if got, err := fields.At(many, nil); err != api.OK || !equal(got, many) {
+	if got, err := fields.At(many, nil); err != api.OK || !samples.Equal(got, many) {
 		t.Errorf("100001 elements: error %d", err)
 	}
-	if got, err := fields.At(many, []int{99999}); err != api.OK || !equal(got, num(1)) {
+	if got, err := fields.At(many, []int{99999}); err != api.OK || !samples.Equal(got, num(1)) {
 		t.Errorf("the last one of 100001 elements: error %d", err)
 	}
 	large := seq(blob(maxText), blob(3*maxText))
-	if got, err := fields.At(large, nil); err != api.OK || !equal(got, large) {
+	if got, err := fields.At(large, nil); err != api.OK || !samples.Equal(got, large) {
 		t.Errorf("a large element: error %d", err)
 	}
 	// The same MiB 2048 times: a copy would have 2 GiB, more than R8 lets a result have.
 	heavy := seq(slices.Repeat([]api.Element{blob(maxText)}, 2048)...)
-	if got, err := fields.At(heavy, nil); err != api.ErrLimit || !isZero(got) {
+	if got, err := fields.At(heavy, nil); err != api.ErrLimit || !samples.IsZero(got) {
 		t.Errorf("2 GiB: error %d", err)
 	}
 	// Without its elements, this one has less than 2 GiB.
 	light := seq(slices.Repeat([]api.Element{seq(slices.Repeat([]api.Element{num()}, 1024)...)}, 1024)...)
-	if got, err := fields.At(seq(seq(heavy.Subs[1:]...), light), nil); err != api.ErrLimit || !isZero(got) {
+	if got, err := fields.At(seq(seq(heavy.Subs[1:]...), light), nil); err != api.ErrLimit || !samples.IsZero(got) {
 		t.Errorf("2047 MiB and 2^20 elements: error %d", err)
 	}
-	if got, err := fields.At(seq(heavy, num(1)), []int{1}); err != api.OK || !equal(got, num(1)) {
+	if got, err := fields.At(seq(heavy, num(1)), []int{1}); err != api.OK || !samples.Equal(got, num(1)) {
 		t.Errorf("beside 2 GiB: error %d", err)
 	}
 }
@@ -875,7 +867,7 @@ func TestUnderLeadsOn(t *testing.T) {
 		if !isFault(f, api.ErrTag, 1, 1, i) {
 			t.Fatalf("Under twice: %v", f)
 		}
-		if got, err := fields.At(e, f.Path); err != api.OK || !equal(got, inner.Subs[i]) {
+		if got, err := fields.At(e, f.Path); err != api.OK || !samples.Equal(got, inner.Subs[i]) {
 			t.Errorf("Under leads to %v, error %d", got, err)
 		}
 	}
@@ -935,29 +927,6 @@ func TestExamples(t *testing.T) {
 
 // R4
 
-// spoil changes all that an element refers to.
-func spoil(e api.Element) {
-	for i := range e.Bytes {
-		e.Bytes[i] ^= 0xff
-	}
-	for i, sub := range e.Subs {
-		spoil(sub)
-		e.Subs[i].Tag.Number ^= 1
-		e.Subs[i].Bytes, e.Subs[i].Subs = nil, nil
-	}
-}
-
-// checkCapacity checks that no slice of an element has spare capacity.
-func checkCapacity(t *testing.T, e api.Element) {
-	t.Helper()
-	if cap(e.Bytes) > len(e.Bytes) || cap(e.Subs) > len(e.Subs) {
-		t.Errorf("capacities %d and %d of %d bytes and %d Subs", cap(e.Bytes), cap(e.Subs), len(e.Bytes), len(e.Subs))
-	}
-	for _, sub := range e.Subs {
-		checkCapacity(t, sub)
-	}
-}
-
 func TestElementsAreNewMemory(t *testing.T) {
 	build := func() api.Element { return seq(num(1, 2, 3), seq(num(4), seq(num(5), blob(33))), num()) }
 	paths(build(), nil, func(path []int) {
@@ -965,21 +934,23 @@ func TestElementsAreNewMemory(t *testing.T) {
 		want, _ := find(build(), path)
 		first, _ := fields.At(e, path)
 		second, _ := fields.At(e, path)
-		checkCapacity(t, first)
-		spoil(first)
-		if !equal(second, want) || !equal(e, build()) {
+		if samples.HasSpare(first) {
+			t.Errorf("At(%v) has spare capacity", path)
+		}
+		samples.Spoil(first)
+		if !samples.Equal(second, want) || !samples.Equal(e, build()) {
 			t.Errorf("At(%v) shares memory with another result or its argument", path)
 		}
-		spoil(e)
-		if !equal(second, want) {
+		samples.Spoil(e)
+		if !samples.Equal(second, want) {
 			t.Errorf("At(%v) keeps its argument", path)
 		}
 	})
 	// Parts of a result share no memory, even if parts of the argument do.
 	shared := seq(num(1), num(2))
 	got, _ := fields.At(seq(shared, shared, num(3)), nil)
-	spoil(got.Subs[0])
-	if !equal(got.Subs[1], seq(num(1), num(2))) {
+	samples.Spoil(got.Subs[0])
+	if !samples.Equal(got.Subs[1], seq(num(1), num(2))) {
 		t.Error("parts of a result share memory")
 	}
 }
@@ -993,7 +964,7 @@ func TestIndicesAndPathsAreNewMemory(t *testing.T) {
 	if cap(first) > len(first) || !slices.Equal(second, []int{0, -1, 1}) {
 		t.Errorf("Sequence: capacity %d, %v", cap(first), second)
 	}
-	if !equal(e, seq(num(1), num(2))) || !slices.Equal(l, []fields.Field{{Tag: integer}, {Tag: boolean, Optional: true}, {Any: true}}) {
+	if !samples.Equal(e, seq(num(1), num(2))) || !slices.Equal(l, []fields.Field{{Tag: integer}, {Tag: boolean, Optional: true}, {Any: true}}) {
 		t.Error("Sequence changes its arguments")
 	}
 	makers := []func() fields.Fault{
@@ -1038,7 +1009,7 @@ func TestPathsAreNotChanged(t *testing.T) {
 	fields.Offset(e, path)
 	fields.Report(e, fields.Fault{Path: path, E: api.ErrTag})
 	fields.Ordered(e)
-	if !slices.Equal(path, []int{1, 1}) || !equal(e, seq(num(1), seq(num(2), num(3)))) {
+	if !slices.Equal(path, []int{1, 1}) || !samples.Equal(e, seq(num(1), seq(num(2), num(3)))) {
 		t.Error("an argument is changed")
 	}
 }

@@ -68,14 +68,6 @@ func repeat(e api.Element, n int, more ...api.Element) api.Element {
 	return set(append(slices.Repeat([]api.Element{e}, n), more...)...)
 }
 
-// equal compares elements as the document does: nil and empty slices are equal.
-func equal(a, b api.Element) bool {
-	return a.Tag == b.Tag && bytes.Equal(a.Bytes, b.Bytes) && slices.EqualFunc(a.Subs, b.Subs, equal)
-}
-
-// isZero reports whether an element is the zero value.
-func isZero(e api.Element) bool { return equal(e, api.Element{}) }
-
 // brief returns the beginning of a text, to be printed.
 func brief(s string) string { return s[:min(len(s), 200)] }
 
@@ -427,7 +419,7 @@ func checkParse(t *testing.T, s string) {
 	t.Helper()
 	want, f := refer(s)
 	e, line, column, err := notations.Parse(s)
-	if err != f.err || line != f.line || column != f.column || !equal(e, want) {
+	if err != f.err || line != f.line || column != f.column || !samples.Equal(e, want) {
 		t.Fatalf("Parse(%q): %v, error %d at %d, %d; want %v, %d at %d, %d", brief(s), e, err, line, column, want, f.err, f.line, f.column)
 	}
 }
@@ -436,7 +428,7 @@ func checkParse(t *testing.T, s string) {
 func checkFault(t *testing.T, s string, f fault) {
 	t.Helper()
 	e, line, column, err := notations.Parse(s)
-	if err != f.err || line != f.line || column != f.column || !isZero(e) {
+	if err != f.err || line != f.line || column != f.column || !samples.IsZero(e) {
 		t.Errorf("Parse(%q): %v, error %d at %d, %d; want %d at %d, %d", brief(s), e.Tag, err, line, column, f.err, f.line, f.column)
 	}
 }
@@ -445,7 +437,7 @@ func checkFault(t *testing.T, s string, f fault) {
 func checkElement(t *testing.T, s string, want api.Element) {
 	t.Helper()
 	e, line, column, err := notations.Parse(s)
-	if err != api.OK || line != 0 || column != 0 || !equal(e, want) {
+	if err != api.OK || line != 0 || column != 0 || !samples.Equal(e, want) {
 		t.Errorf("Parse(%q): %v, error %d at %d, %d; want %v", brief(s), e, err, line, column, want)
 	}
 }
@@ -458,7 +450,7 @@ func checkPrint(t *testing.T, e api.Element, want string) {
 		t.Fatalf("Print(%v): %q, error %d, want %q", e.Tag, brief(s), err, brief(want))
 	}
 	back, line, column, err := notations.Parse(s)
-	if err != api.OK || line != 0 || column != 0 || !equal(back, e) {
+	if err != api.OK || line != 0 || column != 0 || !samples.Equal(back, e) {
 		t.Fatalf("Parse(%q): %v, error %d at %d, %d", brief(s), back, err, line, column)
 	}
 }
@@ -513,7 +505,7 @@ func checkValue(t *testing.T, tag api.Tag, octets []byte) {
 	}
 	for _, s := range []string{want, "#" + hex.EncodeToString(octets)} {
 		back, _, _, err := notations.Parse(wantWord(tag) + " " + s)
-		if err != api.OK || !equal(back, e) {
+		if err != api.OK || !samples.Equal(back, e) {
 			t.Fatalf("Parse(%s %s): %v, error %d", wantWord(tag), s, back, err)
 		}
 	}
@@ -1042,7 +1034,7 @@ func TestParseOfLongTokens(t *testing.T) {
 		for _, front := range []string{"", "SET{", "INTEGER ", "INTEGER -", "OCTETS #", "OID 1.2.", "OID 1.", `UTF8 "`, `BMP "`, "TIME ", "[context ", "NULL ", "BOOLEAN "} {
 			text := front + strings.Repeat(s, (maxText-len(front))/len(s))
 			checkParse(t, text[:1<<12])
-			if e, line, column, err := notations.Parse(text); err == api.OK && (line != 0 || column != 0) || err != api.OK && (line < 1 || column < 1 || !isZero(e)) {
+			if e, line, column, err := notations.Parse(text); err == api.OK && (line != 0 || column != 0) || err != api.OK && (line < 1 || column < 1 || !samples.IsZero(e)) {
 				t.Errorf("Parse(%q): error %d at %d, %d", brief(text), err, line, column)
 			}
 		}
@@ -1188,7 +1180,7 @@ func TestParseInvertsPrint(t *testing.T) {
 			t.Fatalf("Print: error %d", err)
 		}
 		back, line, column, err := notations.Parse(s)
-		if err != api.OK || line != 0 || column != 0 || !equal(back, e) {
+		if err != api.OK || line != 0 || column != 0 || !samples.Equal(back, e) {
 			t.Fatalf("Parse(%q): %v, error %d at %d, %d", s, back, err, line, column)
 		}
 		if again, err := notations.Print(back); err != api.OK || again != s {
@@ -1235,7 +1227,7 @@ func TestDifferentElementsHaveDifferentNotations(t *testing.T) {
 		if err != api.OK {
 			t.Fatalf("Print: error %d", err)
 		}
-		if other, found := seen[s]; found && !equal(e, other) {
+		if other, found := seen[s]; found && !samples.Equal(e, other) {
 			t.Fatalf("%v and %v have the notation %q", e, other, s)
 		}
 		seen[s] = e
@@ -1266,7 +1258,7 @@ func TestDifferentElementsHaveDifferentNotations(t *testing.T) {
 
 func TestExamples(t *testing.T) {
 	chapterE := api.Element{Tag: api.Tag{Constructed: true, Number: 16}, Subs: []api.Element{leaf(2, 7), leaf(6, 0x55, 0x1d, 0x20)}}
-	if decoded, _, err := elements.Get([]byte{0x30, 8, 2, 1, 7, 6, 3, 0x55, 0x1d, 0x20}); err != api.OK || !equal(decoded, chapterE) {
+	if decoded, _, err := elements.Get([]byte{0x30, 8, 2, 1, 7, 6, 3, 0x55, 0x1d, 0x20}); err != api.OK || !samples.Equal(decoded, chapterE) {
 		t.Errorf("E: %v, error %d", decoded, err)
 	}
 	checkPrint(t, chapterE, "SEQUENCE {\n  INTEGER 7\n  OID 2.5.29.32\n}\n")
@@ -1297,28 +1289,6 @@ func TestExamples(t *testing.T) {
 
 // R4
 
-// spoil overwrites all that an element keeps in memory.
-func spoil(e api.Element) {
-	for i := range e.Bytes {
-		e.Bytes[i] ^= 0xff
-	}
-	for i := range e.Subs {
-		spoil(e.Subs[i])
-		e.Subs[i] = alien()
-	}
-}
-
-// checkCapacity checks that the slices of an element have no spare capacity.
-func checkCapacity(t *testing.T, e api.Element) {
-	t.Helper()
-	if cap(e.Bytes) != len(e.Bytes) || cap(e.Subs) != len(e.Subs) {
-		t.Errorf("%v: %d Bytes with the capacity %d, %d Subs with the capacity %d", e.Tag, len(e.Bytes), cap(e.Bytes), len(e.Subs), cap(e.Subs))
-	}
-	for _, sub := range e.Subs {
-		checkCapacity(t, sub)
-	}
-}
-
 func TestResultsAreNewMemory(t *testing.T) {
 	r := random{rand.New(rand.NewSource(7))}
 	for i := range 2000 {
@@ -1326,12 +1296,14 @@ func TestResultsAreNewMemory(t *testing.T) {
 		s := r.wide(e)
 		first, _, _, _ := notations.Parse(s)
 		second, _, _, _ := notations.Parse(s)
-		checkCapacity(t, first)
-		spoil(first)
-		if !equal(second, e) {
+		if samples.HasSpare(first) {
+			t.Errorf("Parse(%q) has spare capacity", s)
+		}
+		samples.Spoil(first)
+		if !samples.Equal(second, e) {
 			t.Fatalf("Parse(%q): results share memory", s)
 		}
-		if third, _, _, err := notations.Parse(s); err != api.OK || !equal(third, e) {
+		if third, _, _, err := notations.Parse(s); err != api.OK || !samples.Equal(third, e) {
 			t.Fatalf("Parse(%q) after a change of an earlier result: %v, error %d", s, third, err)
 		}
 	}
@@ -1344,8 +1316,8 @@ func TestPartsOfAResultShareNoMemory(t *testing.T) {
 		if err != api.OK || len(e.Subs) != 2 {
 			t.Fatalf("%s: error %d", value, err)
 		}
-		spoil(e.Subs[0])
-		if !equal(e.Subs[1], want) {
+		samples.Spoil(e.Subs[0])
+		if !samples.Equal(e.Subs[1], want) {
 			t.Errorf("%s: parts share memory", value)
 		}
 	}
@@ -1363,7 +1335,7 @@ func TestArgumentsAreNeitherModifiedNorKept(t *testing.T) {
 		if after, _ := elements.Put(e); !bytes.Equal(after, encoding) {
 			t.Fatalf("Print or Value changed %q", s)
 		}
-		spoil(e)
+		samples.Spoil(e)
 		if s != kept || value != keptValue {
 			t.Fatalf("%q and %q were kept in the memory of an argument", kept, keptValue)
 		}
