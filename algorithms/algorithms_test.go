@@ -41,38 +41,6 @@ func null() api.Element { return samples.Leaf(5) }
 
 func tagged(t api.Tag) api.Element { return api.Element{Tag: t} }
 
-// arcs returns an OID with N and arcs, whether it is valid or not.
-func arcs(n uint8, list ...uint32) api.OID {
-	o := api.OID{N: n}
-	copy(o.Arcs[:], list)
-	return o
-}
-
-func invalidIDs() []api.OID {
-	return []api.OID{
-		{},
-		arcs(1, 1),
-		arcs(3, 3, 2, 3),
-		arcs(3, 1, 40, 3),
-		arcs(2, 2, math.MaxUint32-79),
-		arcs(3, 1, 2, 3, 4),
-		arcs(17, 1, 2, 3),
-		arcs(255, 1, 2, 3),
-	}
-}
-
-func validIDs() []api.OID {
-	return []api.OID{
-		arcs(7, 1, 2, 840, 113549, 1, 1, 11),
-		arcs(2, 0, 0),
-		arcs(3, 1, 2, 3),
-		arcs(4, 1, 2, 3),
-		arcs(2, 2, 999),
-		arcs(3, 2, math.MaxUint32-80, math.MaxUint32),
-		arcs(16, 1, 2, 3, 4, 5, 6, 7, 8, 9, 10, 11, 12, 13, 14, 15, 16),
-	}
-}
-
 // idOctets returns the content octets of a valid OID as package asn1 has them.
 func idOctets(t *testing.T, o api.OID) []byte {
 	t.Helper()
@@ -173,7 +141,7 @@ func algorithm(id api.OID, p params) algorithms.Algorithm {
 // validAlgorithms lists algorithms of valid keys, each one new.
 func validAlgorithms() []algorithms.Algorithm {
 	var list []algorithms.Algorithm
-	for _, id := range validIDs() {
+	for _, id := range samples.OIDs() {
 		for _, p := range goodParams() {
 			list = append(list, algorithm(id, p))
 		}
@@ -189,11 +157,6 @@ func equal(a, b algorithms.Algorithm) bool {
 // equalKeys compares keys as the document does.
 func equalKeys(a, b algorithms.Key) bool {
 	return equal(a.Algorithm, b.Algorithm) && bytes.Equal(a.Bits, b.Bits) && a.N == b.N
-}
-
-// isFault reports whether a fault has this error and this path.
-func isFault(f fields.Fault, err api.Errno, path ...int) bool {
-	return f.E == err && slices.Equal(f.Path, path)
 }
 
 // P13.1
@@ -223,13 +186,13 @@ func checkSome(t *testing.T, name string, a algorithms.Algorithm) {
 	if err != api.OK || !samples.Equal(e, want) {
 		t.Errorf("%v, %s: Element: error %d", a.ID, name, err)
 	}
-	if back, f := algorithms.Of(e); !isFault(f, api.OK) || !equal(back, a) {
+	if back, f := algorithms.Of(e); !samples.IsFault(f, api.OK) || !equal(back, a) {
 		t.Errorf("%v, %s: Of: %v", a.ID, name, f)
 	}
 }
 
 func TestElement(t *testing.T) {
-	for _, id := range validIDs() {
+	for _, id := range samples.OIDs() {
 		for _, p := range append(goodParams(), largeParams()...) {
 			checkSome(t, p.name, algorithm(id, p))
 		}
@@ -241,13 +204,13 @@ func TestElement(t *testing.T) {
 
 func TestElementErrors(t *testing.T) {
 	for _, p := range badParams() {
-		for _, id := range validIDs() {
+		for _, id := range samples.OIDs() {
 			checkNone(t, p.name, algorithm(id, p), p.err)
 		}
 	}
 	// The error of the ID comes first.
 	for _, p := range slices.Concat(goodParams(), largeParams(), badParams()) {
-		for _, id := range invalidIDs() {
+		for _, id := range samples.NoOIDs() {
 			checkNone(t, p.name, algorithm(id, p), api.ErrArg)
 		}
 	}
@@ -286,48 +249,23 @@ func TestElementIsThatOfPackagePkix(t *testing.T) {
 
 // P13.2
 
-// rule is a condition that an element breaks, and the fault that it is then.
-type rule struct {
-	broken bool
-	err    api.Errno
-	path   []int
-}
-
-// firstFault returns the fault of the first rule that is broken.
-func firstFault(rules []rule) fields.Fault {
-	for _, r := range rules {
-		if r.broken {
-			return fields.Fault{E: r.err, Path: r.path}
-		}
-	}
-	return fields.Fault{}
-}
-
-// sub returns Subs[i], or the zero element.
-func sub(e api.Element, i int) api.Element {
-	if i < len(e.Subs) {
-		return e.Subs[i]
-	}
-	return api.Element{}
-}
-
 // wantOf is Of after the chapter.
 func wantOf(e api.Element) (algorithms.Algorithm, fields.Fault) {
 	check := elements.Check(e)
-	id, err := oids.Get(sub(e, 0).Bytes)
+	id, err := oids.Get(samples.Sub(e, 0).Bytes)
 	count := len(e.Subs)
-	f := firstFault([]rule{
-		{check != api.OK, check, nil},
-		{e.Tag != sequence, api.ErrTag, nil},
-		{count == 0, api.ErrShort, nil},
-		{sub(e, 0).Tag != idTag, api.ErrTag, []int{0}},
-		{count > 2, api.ErrTrail, []int{2}},
-		{err != api.OK, err, []int{0}},
-	})
+	f := samples.FirstFault(
+		samples.If(check != api.OK, check),
+		samples.If(e.Tag != sequence, api.ErrTag),
+		samples.If(count == 0, api.ErrShort),
+		samples.If(samples.Sub(e, 0).Tag != idTag, api.ErrTag, 0),
+		samples.If(count > 2, api.ErrTrail, 2),
+		samples.If(err != api.OK, err, 0),
+	)
 	if f.E != api.OK {
 		return algorithms.Algorithm{}, f
 	}
-	return algorithms.Algorithm{ID: id, Has: count == 2, Params: sub(e, 1)}, f
+	return algorithms.Algorithm{ID: id, Has: count == 2, Params: samples.Sub(e, 1)}, f
 }
 
 // checkOf compares Of with the chapter. (P13.2, P13.6)
@@ -335,7 +273,7 @@ func checkOf(t *testing.T, e api.Element) {
 	t.Helper()
 	want, fault := wantOf(e)
 	a, f := algorithms.Of(e)
-	if !isFault(f, fault.E, fault.Path...) || !equal(a, want) {
+	if !samples.IsFault(f, fault.E, fault.Path...) || !equal(a, want) {
 		t.Fatalf("Of(%v): %v, %v, want %v, %v", e, a, f, want, fault)
 	}
 	if f.E != api.OK {
@@ -343,22 +281,6 @@ func checkOf(t *testing.T, e api.Element) {
 	}
 	if back, err := algorithms.Element(a); err != api.OK || !samples.Equal(back, e) {
 		t.Fatalf("Element of Of(%v): %v, error %d", e, back, err)
-	}
-}
-
-// outerTags lists tags, valid and other ones, that an element can have whose Subs are right.
-func outerTags() []api.Tag {
-	return []api.Tag{
-		sequence,
-		set,
-		{Class: api.Application, Constructed: true, Number: 16},
-		{Class: api.Context, Constructed: true, Number: 16},
-		{Class: 200, Constructed: true, Number: 16},
-		{Constructed: true, Number: 0},
-		{Constructed: true, Number: 6},
-		{Number: 16},
-		{Number: 6},
-		{},
 	}
 }
 
@@ -402,7 +324,7 @@ func alphabet() []api.Element {
 
 func TestOfAllShortLists(t *testing.T) {
 	samples.Lists(alphabet(), 3, func(l []api.Element) { checkOf(t, samples.Seq(l...)) })
-	for _, tag := range outerTags() {
+	for _, tag := range samples.Tags() {
 		samples.Lists(alphabet(), 2, func(l []api.Element) { checkOf(t, api.Element{Tag: tag, Subs: l}) })
 		checkOf(t, api.Element{Tag: tag, Bytes: []byte{0x2a, 3}})
 	}
@@ -434,14 +356,14 @@ func TestOfOrderOfFaults(t *testing.T) {
 		{"a constructed OID", samples.Seq(api.Element{Tag: api.Tag{Constructed: true, Number: 6}}), api.ErrTag, []int{0}},
 		{"a primitive SEQUENCE", api.Element{Tag: api.Tag{Number: 16}, Bytes: []byte{6, 2, 0x2a, 3}}, api.ErrTag, nil},
 	} {
-		if a, f := algorithms.Of(x.e); !isFault(f, x.err, x.path...) || f.E != api.OK && !equal(a, algorithms.Algorithm{}) {
+		if a, f := algorithms.Of(x.e); !samples.IsFault(f, x.err, x.path...) || f.E != api.OK && !equal(a, algorithms.Algorithm{}) {
 			t.Errorf("%s: %v, %v", x.name, a, f)
 		}
 		checkOf(t, x.e)
 	}
 	for i, e := range samples.Cyclic() {
 		for _, x := range []api.Element{e, samples.Seq(id, e), samples.Seq(other, id, id, e)} {
-			if a, f := algorithms.Of(x); !isFault(f, api.ErrDepth) || !equal(a, algorithms.Algorithm{}) {
+			if a, f := algorithms.Of(x); !samples.IsFault(f, api.ErrDepth) || !equal(a, algorithms.Algorithm{}) {
 				t.Errorf("element %d, which contains itself: %v", i, f)
 			}
 		}
@@ -453,7 +375,7 @@ func TestOfKeepsAllParameters(t *testing.T) {
 	for _, p := range slices.Concat(goodParams(), largeParams(), badParams()) {
 		checkFinite(t, checkOf, id, p.e)
 	}
-	for _, tag := range outerTags() {
+	for _, tag := range samples.Tags() {
 		checkOf(t, samples.Seq(id, tagged(tag)))
 	}
 }
@@ -461,13 +383,13 @@ func TestOfKeepsAllParameters(t *testing.T) {
 func TestParametersThatAreTooLargeToBeCopied(t *testing.T) {
 	// They are valid, but have 2^31 bytes, of which rule R8 promises nothing; no such memory is asked for.
 	e := samples.Seq(samples.Leaf(6, 0x2a, 3), samples.Repeat(samples.Leaf(4, make([]byte, 1<<20)...), 1<<11))
-	if a, f := algorithms.Of(e); !isFault(f, api.ErrLimit, 1) || !equal(a, algorithms.Algorithm{}) {
+	if a, f := algorithms.Of(e); !samples.IsFault(f, api.ErrLimit, 1) || !equal(a, algorithms.Algorithm{}) {
 		t.Errorf("Of: %v", f)
 	}
-	if k, f := algorithms.KeyOf(samples.Seq(e, samples.Leaf(3, 0))); !isFault(f, api.ErrLimit, 0, 1) || !equalKeys(k, algorithms.Key{}) {
+	if k, f := algorithms.KeyOf(samples.Seq(e, samples.Leaf(3, 0))); !samples.IsFault(f, api.ErrLimit, 0, 1) || !equalKeys(k, algorithms.Key{}) {
 		t.Errorf("KeyOf: %v", f)
 	}
-	a := algorithms.Algorithm{ID: arcs(3, 1, 2, 3), Has: true, Params: e.Subs[1]}
+	a := algorithms.Algorithm{ID: samples.Arcs(3, 1, 2, 3), Has: true, Params: e.Subs[1]}
 	if got, err := algorithms.Element(a); err != api.ErrLimit || !samples.IsZero(got) || algorithms.Check(a) != api.OK {
 		t.Errorf("Element: error %d", err)
 	}
@@ -566,7 +488,7 @@ func TestKeyElement(t *testing.T) {
 		if err != api.OK || !samples.Equal(e, want) {
 			t.Fatalf("KeyElement: error %d", err)
 		}
-		if back, f := algorithms.KeyOf(e); !isFault(f, api.OK) || !equalKeys(back, k) {
+		if back, f := algorithms.KeyOf(e); !samples.IsFault(f, api.OK) || !equalKeys(back, k) {
 			t.Fatalf("KeyOf: %v", f)
 		}
 	}
@@ -590,7 +512,7 @@ func TestKeyElementIsThatOfPackageAsn1(t *testing.T) {
 }
 
 func TestKeyElementErrors(t *testing.T) {
-	id := validIDs()[0]
+	id := samples.OIDs()[0]
 	for _, p := range goodParams() {
 		for _, x := range badBits() {
 			checkNoKey(t, p.name, key(algorithm(id, p), x), x.err)
@@ -601,7 +523,7 @@ func TestKeyElementErrors(t *testing.T) {
 		for _, p := range badParams() {
 			checkNoKey(t, p.name, key(algorithm(id, p), x), p.err)
 		}
-		for _, id := range invalidIDs() {
+		for _, id := range samples.NoOIDs() {
 			checkNoKey(t, "an invalid ID", key(algorithm(id, goodParams()[1]), x), api.ErrArg)
 		}
 		for _, p := range largeParams() {
@@ -619,21 +541,21 @@ func TestKeyElementErrors(t *testing.T) {
 // wantKeyOf is KeyOf after the chapter.
 func wantKeyOf(e api.Element) (algorithms.Key, fields.Fault) {
 	check := elements.Check(e)
-	a, inner := wantOf(sub(e, 0))
-	content := sub(e, 1).Bytes
+	a, inner := wantOf(samples.Sub(e, 0))
+	content := samples.Sub(e, 1).Bytes
 	b, err := readBits(content)
 	count := len(e.Subs)
-	f := firstFault([]rule{
-		{check != api.OK, check, nil},
-		{e.Tag != sequence, api.ErrTag, nil},
-		{count == 0, api.ErrShort, nil},
-		{sub(e, 0).Tag != sequence, api.ErrTag, []int{0}},
-		{count == 1, api.ErrShort, nil},
-		{sub(e, 1).Tag != bitsTag, api.ErrTag, []int{1}},
-		{count > 2, api.ErrTrail, []int{2}},
-		{inner.E != api.OK, inner.E, append([]int{0}, inner.Path...)},
-		{err != api.OK, err, []int{1}},
-	})
+	f := samples.FirstFault(
+		samples.If(check != api.OK, check),
+		samples.If(e.Tag != sequence, api.ErrTag),
+		samples.If(count == 0, api.ErrShort),
+		samples.If(samples.Sub(e, 0).Tag != sequence, api.ErrTag, 0),
+		samples.If(count == 1, api.ErrShort),
+		samples.If(samples.Sub(e, 1).Tag != bitsTag, api.ErrTag, 1),
+		samples.If(count > 2, api.ErrTrail, 2),
+		samples.If(inner.E != api.OK, inner.E, append([]int{0}, inner.Path...)...),
+		samples.If(err != api.OK, err, 1),
+	)
 	if f.E != api.OK {
 		return algorithms.Key{}, f
 	}
@@ -660,7 +582,7 @@ func checkKeyOf(t *testing.T, e api.Element) {
 	t.Helper()
 	want, fault := wantKeyOf(e)
 	k, f := algorithms.KeyOf(e)
-	if !isFault(f, fault.E, fault.Path...) || !equalKeys(k, want) {
+	if !samples.IsFault(f, fault.E, fault.Path...) || !equalKeys(k, want) {
 		t.Fatalf("KeyOf(%v): %v, %v, want %v, %v", e, k, f, want, fault)
 	}
 	if f.E != api.OK {
@@ -673,7 +595,7 @@ func checkKeyOf(t *testing.T, e api.Element) {
 
 func TestKeyOfAllShortLists(t *testing.T) {
 	samples.Lists(alphabet(), 3, func(l []api.Element) { checkKeyOf(t, samples.Seq(l...)) })
-	for _, tag := range outerTags() {
+	for _, tag := range samples.Tags() {
 		samples.Lists(alphabet(), 2, func(l []api.Element) { checkKeyOf(t, api.Element{Tag: tag, Subs: l}) })
 	}
 	right := samples.Leaf(3, 5, 0xa0)
@@ -718,14 +640,14 @@ func TestKeyOfOrderOfFaults(t *testing.T) {
 		{"65537 bytes of bits", samples.Seq(a, samples.Leaf(3, make([]byte, 65538)...)), api.ErrLimit, []int{1}},
 		{"a constructed BIT STRING", samples.Seq(a, api.Element{Tag: api.Tag{Constructed: true, Number: 3}, Subs: []api.Element{b}}), api.ErrTag, []int{1}},
 	} {
-		if k, f := algorithms.KeyOf(x.e); !isFault(f, x.err, x.path...) || f.E != api.OK && !equalKeys(k, algorithms.Key{}) {
+		if k, f := algorithms.KeyOf(x.e); !samples.IsFault(f, x.err, x.path...) || f.E != api.OK && !equalKeys(k, algorithms.Key{}) {
 			t.Errorf("%s: %v, %v", x.name, k, f)
 		}
 		checkKeyOf(t, x.e)
 	}
 	for i, e := range samples.Cyclic() {
 		for _, x := range []api.Element{e, samples.Seq(a, b, e), samples.Seq(samples.Seq(id, e), b)} {
-			if k, f := algorithms.KeyOf(x); !isFault(f, api.ErrDepth) || !equalKeys(k, algorithms.Key{}) {
+			if k, f := algorithms.KeyOf(x); !samples.IsFault(f, api.ErrDepth) || !equalKeys(k, algorithms.Key{}) {
 				t.Errorf("element %d, which contains itself: %v", i, f)
 			}
 		}
@@ -792,7 +714,7 @@ func TestKeysThatAreChanged(t *testing.T) {
 			}
 			read++
 			checkKeyOf(t, e)
-			checkOf(t, sub(e, 0))
+			checkOf(t, samples.Sub(e, 0))
 		}
 	}
 	if read < 1000 {
@@ -805,7 +727,7 @@ func TestKeysThatAreChanged(t *testing.T) {
 // distinct lists algorithms of which no two are equal, each one new.
 func distinct() []algorithms.Algorithm {
 	list := []algorithms.Algorithm{{}}
-	for i, id := range slices.Concat(validIDs(), invalidIDs()[1:]) {
+	for i, id := range slices.Concat(samples.OIDs(), samples.NoOIDs()[1:]) {
 		for _, p := range append(goodParams(), badParams()...) {
 			if i == 0 || !p.has || len(p.e.Subs) < 100 {
 				list = append(list, algorithm(id, p))
@@ -817,7 +739,7 @@ func distinct() []algorithms.Algorithm {
 		return err != api.OK
 	})
 	for i := range api.MaxArcs {
-		o := arcs(3, 1, 2, 3)
+		o := samples.Arcs(3, 1, 2, 3)
 		o.Arcs[i] += 1 << 31
 		list = append(list, algorithms.Algorithm{ID: o})
 	}
@@ -836,7 +758,7 @@ func TestSame(t *testing.T) {
 }
 
 func TestSameOfParts(t *testing.T) {
-	id := arcs(3, 1, 2, 3)
+	id := samples.Arcs(3, 1, 2, 3)
 	list := func() []api.Element {
 		return []api.Element{
 			{},
@@ -912,7 +834,7 @@ func TestSameOfLargeParameters(t *testing.T) {
 }
 
 func TestSameEnds(t *testing.T) {
-	id := arcs(3, 1, 2, 3)
+	id := samples.Arcs(3, 1, 2, 3)
 	one, two := samples.Cyclic(), samples.Cyclic()
 	for i := range one {
 		for k := range two {
@@ -943,7 +865,7 @@ func TestSameEnds(t *testing.T) {
 func TestSameKey(t *testing.T) {
 	list := func() []algorithms.Key {
 		var list []algorithms.Key
-		for _, a := range []algorithms.Algorithm{{}, {ID: arcs(3, 1, 2, 3)}, {Has: true}, {Params: null()}, {ID: arcs(3, 1, 2, 3), Has: true, Params: null()}} {
+		for _, a := range []algorithms.Algorithm{{}, {ID: samples.Arcs(3, 1, 2, 3)}, {Has: true}, {Params: null()}, {ID: samples.Arcs(3, 1, 2, 3), Has: true, Params: null()}} {
 			for _, b := range [][]byte{nil, {0}, {1}, {0, 0}, {0, 1}, {0xa0}} {
 				for _, n := range []int{0, 1, 3, 4, 8, 16, -1, math.MaxInt, math.MinInt} {
 					list = append(list, algorithms.Key{Algorithm: a, Bits: b, N: n})
@@ -987,7 +909,7 @@ func TestSameKeyExactlyIfTheElementsAre(t *testing.T) {
 	var list []api.Element
 	for _, p := range goodParams()[:5] {
 		for _, x := range goodBits() {
-			k := key(algorithm(arcs(3, 1, 2, 3), p), x)
+			k := key(algorithm(samples.Arcs(3, 1, 2, 3), p), x)
 			e, _ := algorithms.KeyElement(k)
 			valid, list = append(valid, k), append(list, e)
 		}
@@ -1021,7 +943,7 @@ func TestExamples(t *testing.T) {
 		path []int
 	}{{"\x30\x00", api.ErrShort, nil}, {"\x30\x02\x05\x00", api.ErrTag, []int{0}}, {"\x30\x04\x06\x00\x05\x00", api.ErrShort, []int{0}}} {
 		e, _, _ := elements.Get([]byte(x.b))
-		if _, f := algorithms.Of(e); !isFault(f, x.err, x.path...) {
+		if _, f := algorithms.Of(e); !samples.IsFault(f, x.err, x.path...) {
 			t.Errorf("Of(%x): %v", x.b, f)
 		}
 	}
@@ -1038,45 +960,16 @@ func TestExamples(t *testing.T) {
 
 // R4
 
-// clones returns a function that returns the same element again and again, in new memory.
-func clones(e api.Element) func() api.Element {
-	e, _ = fields.At(e, nil)
-	return func() api.Element {
-		c, _ := fields.At(e, nil)
-		return c
-	}
-}
-
-// checkMemory checks that what make returns is new memory that is exactly used. spoil changes what its argument refers to.
+// checkMemory checks that what make returns for an element is new memory.
 func checkMemory(t *testing.T, name string, e api.Element, make func(e api.Element) api.Element) {
 	t.Helper()
-	fresh := clones(e)
-	one := fresh()
-	first, second, third := make(one), make(one), make(one)
-	want := clones(first)()
-	if samples.HasSpare(first) {
-		t.Errorf("%s: spare capacity", name)
-	}
-	samples.Spoil(first)
-	if !samples.Equal(second, want) || !samples.Equal(one, e) {
-		t.Errorf("%s shares memory with another result or its argument, or changes it", name)
-	}
-	samples.Spoil(one)
-	if !samples.Equal(second, want) {
-		t.Errorf("%s keeps its argument", name)
-	}
-	for i := range third.Subs {
-		samples.Spoil(third.Subs[i])
-		for k := i + 1; k < len(third.Subs); k++ {
-			if !samples.Equal(third.Subs[k], want.Subs[k]) {
-				t.Errorf("%s: parts share memory", name)
-			}
-		}
+	if flaw := samples.MemoryFlaw(e, make); flaw != "" {
+		t.Errorf("%s: %s", name, flaw)
 	}
 }
 
 func TestResultsAreNewMemory(t *testing.T) {
-	id := arcs(3, 1, 2, 3)
+	id := samples.Arcs(3, 1, 2, 3)
 	part := samples.Seq(samples.Leaf(2, 1, 2, 3), null())
 	for _, params := range []api.Element{null(), samples.Leaf(4, 1, 2, 3), samples.Seq(part, part, samples.Leaf(6)), samples.Repeat(part, 100)} {
 		checkMemory(t, "Element", params, func(e api.Element) api.Element {
@@ -1115,15 +1008,8 @@ func TestPathsAreNewMemory(t *testing.T) {
 			func() fields.Fault { _, f := algorithms.Of(e); return f },
 			func() fields.Fault { _, f := algorithms.KeyOf(e); return f },
 		} {
-			f, g := read(), read()
-			want := slices.Clone(g.Path)
-			if len(want) == 0 || cap(f.Path) > len(f.Path) {
-				t.Errorf("the path %v with the capacity %d", f.Path, cap(f.Path))
-				continue
-			}
-			f.Path[0] = -99
-			if !slices.Equal(g.Path, want) || !slices.Equal(read().Path, want) {
-				t.Errorf("the path %v shares memory with another one", want)
+			if flaw := samples.PathFlaw(read); flaw != "" {
+				t.Errorf("%v: %s", e, flaw)
 			}
 		}
 	}
@@ -1131,8 +1017,7 @@ func TestPathsAreNewMemory(t *testing.T) {
 
 func TestArgumentsAreNotChanged(t *testing.T) {
 	for _, params := range []api.Element{samples.Seq(samples.Leaf(2, 1), null()), samples.Leaf(4, 1, 2)} {
-		fresh := clones(params)
-		k := algorithms.Key{Algorithm: algorithms.Algorithm{ID: arcs(3, 1, 2, 3), Has: true, Params: fresh()}, Bits: []byte{7, 0x80}, N: 9}
+		k := algorithms.Key{Algorithm: algorithms.Algorithm{ID: samples.Arcs(3, 1, 2, 3), Has: true, Params: samples.Clone(params)}, Bits: []byte{7, 0x80}, N: 9}
 		algorithms.Check(k.Algorithm)
 		algorithms.CheckKey(k)
 		algorithms.Same(k.Algorithm, k.Algorithm)

@@ -95,13 +95,8 @@ func cyclic() api.Element {
 	return e
 }
 
-// isFault reports whether a fault has this error and this path.
-func isFault(f fields.Fault, err api.Errno, path ...int) bool {
-	return f.E == err && slices.Equal(f.Path, path)
-}
-
 // same compares faults as the document does.
-func same(f, g fields.Fault) bool { return isFault(f, g.E, g.Path...) }
+func same(f, g fields.Fault) bool { return samples.IsFault(f, g.E, g.Path...) }
 
 // P12.1
 
@@ -190,7 +185,7 @@ func TestSequenceOfAllShortLists(t *testing.T) {
 func TestSequenceTakesTheFirstFieldThatMatches(t *testing.T) {
 	one, maybe, rest := fields.Field{Tag: integer}, fields.Field{Tag: integer, Optional: true}, fields.Field{Any: true, Optional: true}
 	// The optional field takes the only element, though the one after it needs it.
-	if got, f := fields.Sequence(seq(num(1)), sequence, []fields.Field{maybe, one}); len(got) > 0 || !isFault(f, api.ErrShort) {
+	if got, f := fields.Sequence(seq(num(1)), sequence, []fields.Field{maybe, one}); len(got) > 0 || !samples.IsFault(f, api.ErrShort) {
 		t.Errorf("an optional field before one that is not: %v, %v", got, f)
 	}
 	if got, f := fields.Sequence(seq(num(1), num(2)), sequence, []fields.Field{maybe, rest, maybe}); !slices.Equal(got, []int{0, 1, -1}) || f.E != api.OK {
@@ -207,7 +202,7 @@ func TestSequenceComparesWholeTags(t *testing.T) {
 			e := seq(tagged(a))
 			if i == k {
 				checkSequence(t, e, []fields.Field{{Tag: b}})
-			} else if got, f := fields.Sequence(e, sequence, []fields.Field{{Tag: b}}); len(got) > 0 || !isFault(f, api.ErrTag, 0) {
+			} else if got, f := fields.Sequence(e, sequence, []fields.Field{{Tag: b}}); len(got) > 0 || !samples.IsFault(f, api.ErrTag, 0) {
 				t.Errorf("the field %v and the tag %v: %v, %v", b, a, got, f)
 			}
 			if got, f := fields.Sequence(e, sequence, []fields.Field{{Tag: b, Any: true}}); !slices.Equal(got, []int{0}) || f.E != api.OK {
@@ -239,7 +234,7 @@ func TestSequenceOfManyFields(t *testing.T) {
 		for _, kind := range []fields.Field{{Any: true}, {Optional: true}, {}} {
 			l := slices.Repeat([]fields.Field{kind}, n)
 			for _, tag := range []api.Tag{sequence, integer} {
-				if got, f := fields.Sequence(e, tag, l); len(got) > 0 || !isFault(f, api.ErrLimit) {
+				if got, f := fields.Sequence(e, tag, l); len(got) > 0 || !samples.IsFault(f, api.ErrLimit) {
 					t.Errorf("%d fields: %d indices, %v", n, len(got), f)
 				}
 			}
@@ -250,11 +245,11 @@ func TestSequenceOfManyFields(t *testing.T) {
 func TestSequenceOrderOfFaults(t *testing.T) {
 	// The tag comes before the fields, and an element that is wrong before what is left.
 	for _, l := range [][]fields.Field{nil, {{Tag: integer}}, {{Tag: boolean}}, {{Tag: integer}, {Tag: integer}, {Tag: integer}}} {
-		if got, f := fields.Sequence(seq(num(1), num(2)), set, l); len(got) > 0 || !isFault(f, api.ErrTag) {
+		if got, f := fields.Sequence(seq(num(1), num(2)), set, l); len(got) > 0 || !samples.IsFault(f, api.ErrTag) {
 			t.Errorf("another tag: %v, %v", got, f)
 		}
 	}
-	if got, f := fields.Sequence(seq(num(1), num(2), num(3)), sequence, []fields.Field{{Tag: integer}, {Tag: boolean}}); len(got) > 0 || !isFault(f, api.ErrTag, 1) {
+	if got, f := fields.Sequence(seq(num(1), num(2), num(3)), sequence, []fields.Field{{Tag: integer}, {Tag: boolean}}); len(got) > 0 || !samples.IsFault(f, api.ErrTag, 1) {
 		t.Errorf("an element that is wrong: %v, %v", got, f)
 	}
 }
@@ -312,7 +307,7 @@ func TestList(t *testing.T) {
 func TestListOfManyElements(t *testing.T) {
 	e := seq(slices.Repeat([]api.Element{num(1)}, 70000)...)
 	for _, most := range []int{0, 256, 8192, 65535, 69999} {
-		if f := fields.List(e, sequence, 0, most); !isFault(f, api.ErrLimit, most) {
+		if f := fields.List(e, sequence, 0, most); !samples.IsFault(f, api.ErrLimit, most) {
 			t.Errorf("70000 elements, at most %d: %v", most, f)
 		}
 	}
@@ -340,7 +335,7 @@ func TestListComparesWholeTags(t *testing.T) {
 func TestListAcceptsInvalidElements(t *testing.T) {
 	for i, x := range invalid() {
 		for _, e := range []api.Element{x.e, seq(x.e), seq(x.e, x.e)} {
-			if f := fields.List(e, e.Tag, 0, len(e.Subs)); !isFault(f, api.OK) {
+			if f := fields.List(e, e.Tag, 0, len(e.Subs)); !samples.IsFault(f, api.OK) {
 				t.Errorf("invalid element %d: %v", i, f)
 			}
 		}
@@ -409,27 +404,27 @@ func TestOrderedOfAllShortLists(t *testing.T) {
 func TestOrderedOfEveryTagAndInvalidElement(t *testing.T) {
 	for _, tag := range strange() {
 		e := api.Element{Tag: tag, Bytes: []byte{1}, Subs: []api.Element{num(1), num(2), num(2), num(1)}}
-		if f := fields.Ordered(e); !isFault(f, api.ErrTwice, 2) {
+		if f := fields.Ordered(e); !samples.IsFault(f, api.ErrTwice, 2) {
 			t.Errorf("the tag %v: %v", tag, f)
 		}
 		e.Subs = e.Subs[:2]
-		if f := fields.Ordered(e); !isFault(f, api.OK) {
+		if f := fields.Ordered(e); !samples.IsFault(f, api.OK) {
 			t.Errorf("the tag %v: %v", tag, f)
 		}
 	}
 	for i, x := range invalid() {
-		if f := fields.Ordered(seq(x.e)); !isFault(f, x.err, 0) {
+		if f := fields.Ordered(seq(x.e)); !samples.IsFault(f, x.err, 0) {
 			t.Errorf("invalid element %d: %v, want %d", i, f, x.err)
 		}
-		if f := fields.Ordered(seq(num(1), num(2), x.e)); !isFault(f, x.err, 2) {
+		if f := fields.Ordered(seq(num(1), num(2), x.e)); !samples.IsFault(f, x.err, 2) {
 			t.Errorf("invalid element %d behind others: %v, want %d", i, f, x.err)
 		}
-		if f := fields.Ordered(seq(num(2), num(1), x.e)); !isFault(f, api.ErrOrder, 1) {
+		if f := fields.Ordered(seq(num(2), num(1), x.e)); !samples.IsFault(f, api.ErrOrder, 1) {
 			t.Errorf("invalid element %d behind a wrong order: %v", i, f)
 		}
 	}
 	// Each of them has 16 levels, which are too many only together with e.
-	if f := fields.Ordered(seq(nest(num(1), 15), nest(num(2), 15))); !isFault(f, api.OK) {
+	if f := fields.Ordered(seq(nest(num(1), 15), nest(num(2), 15))); !samples.IsFault(f, api.OK) {
 		t.Errorf("elements with all levels: %v", f)
 	}
 }
@@ -460,11 +455,11 @@ func TestOrderedOfManyElements(t *testing.T) {
 	for i := range 20000 {
 		e.Subs = append(e.Subs, num(byte(i>>16), byte(i>>8), byte(i)))
 	}
-	if f := fields.Ordered(e); !isFault(f, api.OK) {
+	if f := fields.Ordered(e); !samples.IsFault(f, api.OK) {
 		t.Errorf("20000 elements: %v", f)
 	}
 	e.Subs[19999] = e.Subs[0]
-	if f := fields.Ordered(e); !isFault(f, api.ErrOrder, 19999) {
+	if f := fields.Ordered(e); !samples.IsFault(f, api.ErrOrder, 19999) {
 		t.Errorf("20000 elements, the first one again: %v", f)
 	}
 }
@@ -500,11 +495,11 @@ func TestExplicit(t *testing.T) {
 func TestExplicitAcceptsInvalidElements(t *testing.T) {
 	for i, x := range invalid() {
 		e := api.Element{Tag: api.Tag{Class: api.Context, Constructed: true, Number: 5}, Bytes: []byte{1}, Subs: []api.Element{x.e}}
-		if f := fields.Explicit(e, 5); !isFault(f, api.OK) {
+		if f := fields.Explicit(e, 5); !samples.IsFault(f, api.OK) {
 			t.Errorf("invalid element %d: %v", i, f)
 		}
 		e.Subs = append(e.Subs, x.e)
-		if f := fields.Explicit(e, 5); !isFault(f, api.ErrTrail, 1) {
+		if f := fields.Explicit(e, 5); !samples.IsFault(f, api.ErrTrail, 1) {
 			t.Errorf("invalid element %d twice: %v", i, f)
 		}
 	}
@@ -531,7 +526,7 @@ func TestUnder(t *testing.T) {
 	if f := fields.Under(-9, long); f.E != api.ErrTag || f.Path[0] != -9 || !slices.Equal(f.Path[1:], long.Path) {
 		t.Errorf("Under of a long path: error %d, %d indices", f.E, len(f.Path))
 	}
-	if f := fields.Under(5, fields.Fault{}); !isFault(f, api.OK) {
+	if f := fields.Under(5, fields.Fault{}); !samples.IsFault(f, api.OK) {
 		t.Errorf("Under of the zero Fault: %v", f)
 	}
 }
@@ -864,7 +859,7 @@ func TestUnderLeadsOn(t *testing.T) {
 	inner := e.Subs[1].Subs[1]
 	for i := range inner.Subs {
 		f := fields.Under(1, fields.Under(1, fields.Fault{Path: []int{i}, E: api.ErrTag}))
-		if !isFault(f, api.ErrTag, 1, 1, i) {
+		if !samples.IsFault(f, api.ErrTag, 1, 1, i) {
 			t.Fatalf("Under twice: %v", f)
 		}
 		if got, err := fields.At(e, f.Path); err != api.OK || !samples.Equal(got, inner.Subs[i]) {
@@ -872,7 +867,7 @@ func TestUnderLeadsOn(t *testing.T) {
 		}
 	}
 	f := fields.Under(2, fields.Under(3, fields.Fault{Path: []int{4}, E: api.ErrTag})) // of 3, and then of 2
-	if !isFault(f, api.ErrTag, 2, 3, 4) {
+	if !samples.IsFault(f, api.ErrTag, 2, 3, 4) {
 		t.Errorf("Under of 3 and then of 2: %v", f)
 	}
 }
@@ -898,7 +893,7 @@ func TestExamples(t *testing.T) {
 			t.Errorf("Sequence, example %d: %v, %v", k, got, f)
 		}
 	}
-	if got, f := fields.Sequence(e, integer, nil); len(got) > 0 || !isFault(f, api.ErrTag) {
+	if got, f := fields.Sequence(e, integer, nil); len(got) > 0 || !samples.IsFault(f, api.ErrTag) {
 		t.Errorf("Sequence with another tag: %v, %v", got, f)
 	}
 	for k, x := range []struct{ f, want fields.Fault }{
@@ -980,14 +975,8 @@ func TestIndicesAndPathsAreNewMemory(t *testing.T) {
 		func() fields.Fault { return fields.Under(4, fields.Fault{E: api.ErrTag, Path: []int{1, 2}}) },
 	}
 	for i, make := range makers {
-		f, g := make(), make()
-		want := slices.Clone(g.Path)
-		if len(want) == 0 || cap(f.Path) > len(f.Path) {
-			t.Errorf("path %d: %v, capacity %d", i, f.Path, cap(f.Path))
-		}
-		f.Path[0] = -99
-		if !slices.Equal(g.Path, want) || !slices.Equal(make().Path, want) {
-			t.Errorf("path %d shares memory with another one", i)
+		if flaw := samples.PathFlaw(make); flaw != "" {
+			t.Errorf("path %d: %s", i, flaw)
 		}
 	}
 	path := append(make([]int, 0, 9), 1, 2) // with spare capacity, which must not be used

@@ -7,6 +7,24 @@ import (
 	"vidimus/api"
 )
 
+// Tags lists tags, valid and other ones, that look like those of a SEQUENCE and a SET; these come first.
+func Tags() []api.Tag {
+	return []api.Tag{
+		{Constructed: true, Number: api.TagSequence},
+		{Constructed: true, Number: api.TagSet},
+		{Class: api.Application, Constructed: true, Number: api.TagSequence},
+		{Class: api.Context, Constructed: true, Number: api.TagSequence},
+		{Class: api.Context, Constructed: true, Number: api.TagSet},
+		{Class: 200, Constructed: true, Number: api.TagSequence},
+		{Constructed: true, Number: 0},
+		{Constructed: true, Number: api.TagOID},
+		{Number: api.TagSequence},
+		{Number: api.TagSet},
+		{Number: api.TagOID},
+		{},
+	}
+}
+
 // Leaf returns a primitive element with a universal tag.
 func Leaf(number uint32, octets ...byte) api.Element {
 	return api.Element{Tag: api.Tag{Number: number}, Bytes: octets}
@@ -15,6 +33,19 @@ func Leaf(number uint32, octets ...byte) api.Element {
 // Seq returns a SEQUENCE.
 func Seq(subs ...api.Element) api.Element {
 	return api.Element{Tag: api.Tag{Constructed: true, Number: api.TagSequence}, Subs: subs}
+}
+
+// Set returns a SET.
+func Set(subs ...api.Element) api.Element {
+	return api.Element{Tag: api.Tag{Constructed: true, Number: api.TagSet}, Subs: subs}
+}
+
+// Sub returns Subs[i], or the zero element if there is none.
+func Sub(e api.Element, i int) api.Element {
+	if i < len(e.Subs) {
+		return e.Subs[i]
+	}
+	return api.Element{}
 }
 
 // Nest returns an element in n SEQUENCEs.

@@ -31,6 +31,28 @@ func TestMakingElements(t *testing.T) {
 	}
 }
 
+func TestSetAndSub(t *testing.T) {
+	set := samples.Set(null(), some())
+	if set.Tag != (api.Tag{Constructed: true, Number: 17}) || !samples.Equal(samples.Seq(set.Subs...), samples.Seq(null(), some())) {
+		t.Errorf("Set: %v", set)
+	}
+	if !samples.Equal(samples.Sub(set, 0), null()) || !samples.Equal(samples.Sub(set, 1), some()) || !samples.IsZero(samples.Sub(set, 2)) {
+		t.Errorf("Sub: %v, %v, %v", samples.Sub(set, 0), samples.Sub(set, 1), samples.Sub(set, 2))
+	}
+}
+
+func TestTags(t *testing.T) {
+	list := samples.Tags()
+	if list[0] != samples.Seq().Tag || list[1] != samples.Set().Tag {
+		t.Errorf("the first ones are %v", list[:2])
+	}
+	for i, tag := range list {
+		if slices.Contains(list[:i], tag) {
+			t.Errorf("%v is there twice", tag)
+		}
+	}
+}
+
 func TestCyclic(t *testing.T) {
 	for i, e := range samples.Cyclic() {
 		levels := 0

@@ -1,4 +1,4 @@
-// Package samples lists inputs, and makes and compares elements, for the tests of the other packages; the program itself does not call it.
+// Package samples lists inputs, makes and compares elements and faults, and checks that results are new memory, for the tests of the other packages; the program itself does not call it.
 package samples
 
 // Lists calls use with all lists of up to size elements of an alphabet; use may keep them, but not change them.
